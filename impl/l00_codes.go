@@ -1,0 +1,104 @@
+// Package impl is a house of design and manufacture, a file a layer.
+package impl
+
+const (
+	MaxText = 65536
+	MaxList = 4096
+	MaxName = 40
+)
+
+const (
+	OK = iota
+	ErrBad
+	ErrLong
+	ErrForm
+	ErrSyntax
+	ErrRange
+	ErrName
+	ErrTwice
+	ErrNone
+	ErrLoop
+	ErrMany
+	ErrZero
+	ErrOver
+	ErrState
+	ErrUnit
+	ErrCore
+	ErrGouge
+	ErrKind
+	ErrFull
+	ErrSum
+
+	codeCount = iota
+)
+
+var codeWords [codeCount]string
+
+func init() {
+	codeWords = [codeCount]string{
+		OK:        "ok",
+		ErrBad:    "bad",
+		ErrLong:   "long",
+		ErrForm:   "form",
+		ErrSyntax: "syntax",
+		ErrRange:  "range",
+		ErrName:   "name",
+		ErrTwice:  "twice",
+		ErrNone:   "none",
+		ErrLoop:   "loop",
+		ErrMany:   "many",
+		ErrZero:   "zero",
+		ErrOver:   "over",
+		ErrState:  "state",
+		ErrUnit:   "unit",
+		ErrCore:   "core",
+		ErrGouge:  "gouge",
+		ErrKind:   "kind",
+		ErrFull:   "full",
+		ErrSum:    "sum",
+	}
+}
+
+func NameOK(t string) bool {
+	if len(t) == 0 || len(t) > MaxName {
+		return false
+	}
+	for at, r := range t {
+		if !nameLetter(r) && (at == 0 || !digit(r)) {
+			return false
+		}
+	}
+	return true
+}
+
+// Bytes that are no right encoding need no case of their own: a range over a
+// text gives 0xFFFD for them, and that is no letter.
+func nameLetter(r rune) bool {
+	switch {
+	case r == '_', between(r, 'a', 'z'), between(r, 'A', 'Z'):
+		return true
+	case r == 0xD7, r == 0xF7:
+		return false
+	}
+	return between(r, 0xC0, 0x24F) || between(r, 0x391, 0x3C9) || between(r, 0x410, 0x44F)
+}
+
+func digit(r rune) bool { return between(r, '0', '9') }
+
+func between(r, first, last rune) bool { return first <= r && r <= last }
+
+func CodeWord(code int) string {
+	if code < 0 || code >= codeCount {
+		return ""
+	}
+	return codeWords[code]
+}
+
+func CodeOf(word string) int {
+	for code, w := range codeWords {
+		if w == word {
+			return code
+		}
+	}
+	return -1
+}
