@@ -183,7 +183,7 @@ func stageOneCalls() []func() string {
 }
 
 func TestAnswersHangOnNothingElse(t *testing.T) {
-	calls := stageOneCalls()
+	calls := append(stageOneCalls(), termCalls()...)
 	first := make([]string, len(calls))
 	for i, call := range calls {
 		first[i] = call()
