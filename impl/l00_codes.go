@@ -32,31 +32,59 @@ const (
 	codeCount = iota
 )
 
+// codeWords has the words side by side, for those who look for one of them.
 var codeWords [codeCount]string
 
 func init() {
-	codeWords = [codeCount]string{
-		OK:        "ok",
-		ErrBad:    "bad",
-		ErrLong:   "long",
-		ErrForm:   "form",
-		ErrSyntax: "syntax",
-		ErrRange:  "range",
-		ErrName:   "name",
-		ErrTwice:  "twice",
-		ErrNone:   "none",
-		ErrLoop:   "loop",
-		ErrMany:   "many",
-		ErrZero:   "zero",
-		ErrOver:   "over",
-		ErrState:  "state",
-		ErrUnit:   "unit",
-		ErrCore:   "core",
-		ErrGouge:  "gouge",
-		ErrKind:   "kind",
-		ErrFull:   "full",
-		ErrSum:    "sum",
+	for code := range codeCount {
+		codeWords[code] = wordOf(code)
 	}
+}
+
+func wordOf(code int) string {
+	switch code {
+	case OK:
+		return "ok"
+	case ErrBad:
+		return "bad"
+	case ErrLong:
+		return "long"
+	case ErrForm:
+		return "form"
+	case ErrSyntax:
+		return "syntax"
+	case ErrRange:
+		return "range"
+	case ErrName:
+		return "name"
+	case ErrTwice:
+		return "twice"
+	case ErrNone:
+		return "none"
+	case ErrLoop:
+		return "loop"
+	case ErrMany:
+		return "many"
+	case ErrZero:
+		return "zero"
+	case ErrOver:
+		return "over"
+	case ErrState:
+		return "state"
+	case ErrUnit:
+		return "unit"
+	case ErrCore:
+		return "core"
+	case ErrGouge:
+		return "gouge"
+	case ErrKind:
+		return "kind"
+	case ErrFull:
+		return "full"
+	case ErrSum:
+		return "sum"
+	}
+	return ""
 }
 
 func NameOK(t string) bool {
@@ -87,12 +115,7 @@ func digit(r rune) bool { return between(r, '0', '9') }
 
 func between(r, first, last rune) bool { return first <= r && r <= last }
 
-func CodeWord(code int) string {
-	if code < 0 || code >= codeCount {
-		return ""
-	}
-	return codeWords[code]
-}
+func CodeWord(code int) string { return wordOf(code) }
 
 func CodeOf(word string) int {
 	for code, w := range codeWords {

@@ -65,9 +65,42 @@ func checkSource(t *testing.T, name string, source []byte) {
 		}
 	}
 	for _, d := range file.Decls {
+		if v, ok := d.(*ast.GenDecl); ok && v.Tok == token.VAR {
+			checkVariables(t, name, v)
+		}
 		if f, ok := d.(*ast.FuncDecl); ok && fset.Position(f.End()).Line-fset.Position(f.Pos()).Line >= mostLines {
 			t.Error(name, "has a function that is too long:", f.Name.Name)
 		}
+	}
+}
+
+// filledAtStart are the variables that the document's chapter 24 asks for.
+var filledAtStart = []string{"codeWords"}
+
+// A variable of the package is a table that is written out, or an error.
+func checkVariables(t *testing.T, name string, variables *ast.GenDecl) {
+	for _, s := range variables.Specs {
+		spec := s.(*ast.ValueSpec)
+		if slices.Contains(filledAtStart, spec.Names[0].Name) {
+			continue
+		}
+		if len(spec.Values) != len(spec.Names) {
+			t.Error(name, "has a variable without a value:", spec.Names[0].Name)
+		}
+		ast.Inspect(spec, func(n ast.Node) bool {
+			switch x := n.(type) {
+			case *ast.CallExpr:
+				made, ok := x.Fun.(*ast.SelectorExpr)
+				if !ok || made.Sel.Name != "New" {
+					t.Error(name, "has a variable made by a call:", spec.Names[0].Name)
+				}
+			case *ast.MapType, *ast.FuncType, *ast.ChanType, *ast.StarExpr, *ast.UnaryExpr:
+				if u, ok := x.(*ast.UnaryExpr); !ok || u.Op == token.AND {
+					t.Error(name, "has a variable of a kind that no table has:", spec.Names[0].Name)
+				}
+			}
+			return true
+		})
 	}
 }
 
