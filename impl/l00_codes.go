@@ -1,6 +1,8 @@
 // Package impl is a house of design and manufacture, a file a layer.
 package impl
 
+import "cmp"
+
 const (
 	MaxText = 65536
 	MaxList = 4096
@@ -113,7 +115,7 @@ func nameLetter(r rune) bool {
 
 func digit(r rune) bool { return between(r, '0', '9') }
 
-func between(r, first, last rune) bool { return first <= r && r <= last }
+func between[T cmp.Ordered](x, first, last T) bool { return first <= x && x <= last }
 
 func CodeWord(code int) string { return wordOf(code) }
 

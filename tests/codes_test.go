@@ -2,6 +2,7 @@ package tests
 
 import (
 	"fmt"
+	"slices"
 	"strings"
 	"testing"
 
@@ -183,7 +184,7 @@ func stageOneCalls() []func() string {
 }
 
 func TestAnswersHangOnNothingElse(t *testing.T) {
-	calls := append(stageOneCalls(), termCalls()...)
+	calls := slices.Concat(stageOneCalls(), termCalls(), planeCalls())
 	first := make([]string, len(calls))
 	for i, call := range calls {
 		first[i] = call()
