@@ -236,6 +236,7 @@ func checkNoField(t *testing.T, f impl.Field) {
 	}
 	for _, r := range []int{-1, 0, 3, 4, greatest} {
 		checkBadFloor(t, f, r)
+		checkNoContour(t, f, r, impl.ErrBad)
 	}
 }
 
@@ -252,6 +253,7 @@ func checkBadFields(t *testing.T, a, b impl.Field) {
 	if n, code := impl.Rest(a, b); n != 0 || code != impl.ErrBad {
 		t.Error("Rest", short(a), short(b), n, code)
 	}
+	checkNoZigzag(t, a, b, 1, 7, impl.ErrBad)
 }
 
 func checkBadFloor(t *testing.T, f impl.Field, r int) {
