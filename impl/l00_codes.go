@@ -1,7 +1,10 @@
 // Package impl is a house of design and manufacture, a file a layer.
 package impl
 
-import "cmp"
+import (
+	"cmp"
+	"strconv"
+)
 
 const (
 	MaxText = 65536
@@ -116,6 +119,14 @@ func nameLetter(r rune) bool {
 func digit(r rune) bool { return between(r, '0', '9') }
 
 func between[T cmp.Ordered](x, first, last T) bool { return first <= x && x <= last }
+
+// numberOf reads more than a number's text (signs, noughts ahead) and then asks
+// whether the number would be told so.
+func numberOf(t string) (int, bool) {
+	const firstTooLong = 1000000000000000000
+	n, err := strconv.Atoi(t)
+	return n, err == nil && strconv.Itoa(n) == t && magnitude(n) < firstTooLong
+}
 
 func CodeWord(code int) string { return wordOf(code) }
 

@@ -4,8 +4,10 @@ import (
 	"bytes"
 	"go/ast"
 	"go/format"
+	"go/importer"
 	"go/parser"
 	"go/token"
+	"go/types"
 	"os"
 	"path/filepath"
 	"slices"
@@ -114,4 +116,74 @@ func TestProjectHasNoOtherFolders(t *testing.T) {
 			t.Error("the project has the folder", e.Name())
 		}
 	}
+}
+
+// What is drawn while a map is gone through hangs on its order, which is another
+// one in each run; so does what is drawn from a source that no test has made.
+func TestWhatIsDrawnIsTheSameInEachRun(t *testing.T) {
+	fset := token.NewFileSet()
+	names, err := filepath.Glob("*_test.go")
+	if err != nil || len(names) == 0 {
+		t.Fatal("no files of tests", err)
+	}
+	var files []*ast.File
+	for _, name := range names {
+		file, err := parser.ParseFile(fset, name, nil, 0)
+		if err != nil {
+			t.Fatal(err)
+		}
+		files = append(files, file)
+	}
+	info := &types.Info{Types: map[ast.Expr]types.TypeAndValue{}, Uses: map[*ast.Ident]types.Object{}}
+	config := types.Config{Importer: importer.ForCompiler(fset, "source", nil)}
+	if _, err := config.Check("tests", fset, files, info); err != nil {
+		t.Fatal(err)
+	}
+	drawing := 0
+	for _, file := range files {
+		ast.Inspect(file, func(n ast.Node) bool {
+			if loop, ok := n.(*ast.RangeStmt); ok && overMap(info, loop.X) && drawsIn(info, loop.Body) > 0 {
+				t.Error(fset.Position(loop.Pos()), "draws in the order of a map")
+			}
+			if id, ok := n.(*ast.Ident); ok && drawsUnseeded(info.Uses[id]) {
+				t.Error(fset.Position(id.Pos()), "draws from a source of its own")
+			}
+			return true
+		})
+		drawing += drawsIn(info, file)
+	}
+	if drawing == 0 {
+		t.Error("no test draws")
+	}
+}
+
+// overMap: the map itself, or its keys or values as they come.
+func overMap(info *types.Info, x ast.Expr) bool {
+	if call, ok := x.(*ast.CallExpr); ok {
+		if of, ok := call.Fun.(*ast.SelectorExpr); ok {
+			f, ok := info.Uses[of.Sel].(*types.Func)
+			return ok && f.Pkg() != nil && f.Pkg().Path() == "maps"
+		}
+	}
+	_, ok := info.Types[x].Type.Underlying().(*types.Map)
+	return ok
+}
+
+func drawsIn(info *types.Info, n ast.Node) int {
+	draws := 0
+	ast.Inspect(n, func(n ast.Node) bool {
+		if x, ok := n.(ast.Expr); ok && info.Types[x].Type != nil && info.Types[x].Type.String() == "*math/rand.Rand" {
+			draws++
+		}
+		return true
+	})
+	return draws
+}
+
+func drawsUnseeded(used types.Object) bool {
+	f, ok := used.(*types.Func)
+	if !ok || f.Pkg() == nil || !strings.HasPrefix(f.Pkg().Path(), "math/rand") || f.Signature().Recv() != nil {
+		return false
+	}
+	return f.Name() != "New" && f.Name() != "NewSource"
 }

@@ -224,9 +224,10 @@ func onCircle(square int) []impl.Point {
 // Of many points on one circle, in any order, with pairs across and without.
 func TestRingsOfManyOnOneCircle(t *testing.T) {
 	draw := rand.New(rand.NewSource(11))
-	for square, count := range map[int]int{25: 12, 65: 16, 325: 24, 1105: 32, 4225: 36, 5525: 48, 32045: 64} {
+	for _, circle := range []struct{ square, count int }{{25, 12}, {65, 16}, {325, 24}, {1105, 32}, {4225, 36}, {5525, 48}, {32045, 64}} {
+		square := circle.square
 		all := onCircle(square)
-		if len(all) != count {
+		if len(all) != circle.count {
 			t.Fatal("the circle itself is wrong", square, len(all))
 		}
 		if r := checkRing(t, all); r.Count != 2 || r.N != square || r.D != 1 {
