@@ -70,14 +70,18 @@ func checkSource(t *testing.T, name string, source []byte) {
 		if v, ok := d.(*ast.GenDecl); ok && v.Tok == token.VAR {
 			checkVariables(t, name, v)
 		}
-		if f, ok := d.(*ast.FuncDecl); ok && fset.Position(f.End()).Line-fset.Position(f.Pos()).Line >= mostLines {
+		f, ok := d.(*ast.FuncDecl)
+		if ok && fset.Position(f.End()).Line-fset.Position(f.Pos()).Line >= mostLines {
 			t.Error(name, "has a function that is too long:", f.Name.Name)
+		}
+		if ok && f.Name.Name != "init" {
+			checkFillsNothing(t, name, f)
 		}
 	}
 }
 
 // filledAtStart are the variables that the document's chapter 24 asks for.
-var filledAtStart = []string{"codeWords"}
+var filledAtStart = []string{"codeWords", "machines"}
 
 // A variable of the package is a table that is written out, or an error.
 func checkVariables(t *testing.T, name string, variables *ast.GenDecl) {
@@ -104,6 +108,37 @@ func checkVariables(t *testing.T, name string, variables *ast.GenDecl) {
 			return true
 		})
 	}
+}
+
+// What is filled at start-up stays as it is: nothing is kept from call to call.
+func checkFillsNothing(t *testing.T, name string, f *ast.FuncDecl) {
+	check := func(x ast.Expr) {
+		if at, ok := x.(*ast.IndexExpr); ok {
+			x = at.X
+		}
+		if id, ok := x.(*ast.Ident); ok && slices.Contains(filledAtStart, id.Name) {
+			t.Error(name, "fills", id.Name, "behind the start-up, in", f.Name.Name)
+		}
+	}
+	ast.Inspect(f, func(n ast.Node) bool {
+		switch x := n.(type) {
+		case *ast.AssignStmt:
+			for _, left := range x.Lhs {
+				check(left)
+			}
+		case *ast.IncDecStmt:
+			check(x.X)
+		case *ast.UnaryExpr:
+			if x.Op == token.AND {
+				check(x.X)
+			}
+		case *ast.CallExpr:
+			if called, ok := x.Fun.(*ast.Ident); ok && (called.Name == "delete" || called.Name == "clear") {
+				check(x.Args[0])
+			}
+		}
+		return true
+	})
 }
 
 func TestProjectHasNoOtherFolders(t *testing.T) {
