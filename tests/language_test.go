@@ -8,6 +8,7 @@ import (
 	"go/parser"
 	"go/token"
 	"go/types"
+	"maps"
 	"os"
 	"path/filepath"
 	"slices"
@@ -139,6 +140,45 @@ func checkFillsNothing(t *testing.T, name string, f *ast.FuncDecl) {
 		}
 		return true
 	})
+}
+
+// A machine that has put itself among the machines is told by posterOf, too, and
+// the other way round; Post asks both. No answer could tell that one is missing.
+func TestMachinesAreThoseThatAreTold(t *testing.T) {
+	file, err := parser.ParseFile(token.NewFileSet(), "../impl/l13_posts.go", nil, 0)
+	if err != nil {
+		t.Fatal(err)
+	}
+	registered, told, asked := map[string]string{}, map[string]string{}, map[string]int{}
+	for _, d := range file.Decls {
+		f, ok := d.(*ast.FuncDecl)
+		if !ok {
+			continue
+		}
+		ast.Inspect(f, func(n ast.Node) bool {
+			switch x := n.(type) {
+			case *ast.AssignStmt:
+				if at, ok := x.Lhs[0].(*ast.IndexExpr); ok && f.Name.Name == "init" && types.ExprString(at.X) == "machines" {
+					registered[types.ExprString(at.Index)] = types.ExprString(x.Rhs[0])
+				}
+			case *ast.CaseClause:
+				if f.Name.Name == "posterOf" && len(x.List) == 1 {
+					told[types.ExprString(x.List[0])] = types.ExprString(x.Body[0].(*ast.ReturnStmt).Results[0])
+				}
+			case *ast.Ident:
+				if f.Name.Name == "Post" {
+					asked[x.Name]++
+				}
+			}
+			return true
+		})
+	}
+	if len(registered) != 2 || !maps.Equal(registered, told) {
+		t.Error("registered are", registered, "told are", told)
+	}
+	if asked["machines"] == 0 || asked["posterOf"] == 0 {
+		t.Error("Post asks for", asked)
+	}
 }
 
 func TestProjectHasNoOtherFolders(t *testing.T) {
