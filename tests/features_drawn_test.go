@@ -331,6 +331,7 @@ func checkByOracle(t *testing.T, list []impl.Feature, off []string) int {
 		if rows, got := impl.Section(list, off, 0); len(rows) != 0 || got != code {
 			t.Fatal("Section", list, off, rows, got)
 		}
+		checkNotPrinted(t, list, off, code)
 		return code
 	}
 	part, got, names := impl.Rebuild(list, off)
@@ -345,16 +346,18 @@ func checkByOracle(t *testing.T, list []impl.Feature, off []string) int {
 }
 
 // checkSections: the sections have the cells, and as many squares between
-// their signs as the faces have.
+// their signs as the faces have; the layers have what the sections have.
 func checkSections(t *testing.T, list []impl.Feature, off []string, part impl.Part, deeds []deed) {
 	t.Helper()
 	var signs [impl.Grid + 2][impl.Grid + 2][impl.Grid + 2]int
 	filled, squares, area := 0, 0, 0
+	var sections [][]string
 	for z := range impl.Grid {
 		rows, code := impl.Section(list, off, z)
 		if code != impl.OK || len(rows) != impl.Grid {
 			t.Fatal("Section", list, off, z, rows, code)
 		}
+		sections = append(sections, rows)
 		for y, row := range rows {
 			if len(row) != impl.Grid {
 				t.Fatal("Section", list, off, z, rows)
@@ -384,6 +387,7 @@ func checkSections(t *testing.T, list []impl.Feature, off []string, part impl.Pa
 	if filled != part.Volume || squares != area {
 		t.Fatal("sections", list, off, filled, squares, "not", part.Volume, area)
 	}
+	checkLayersBySections(t, list, off, sections, part.Volume)
 }
 
 func checkFaces(t *testing.T, list []impl.Feature, off []string, part impl.Part) {

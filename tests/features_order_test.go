@@ -130,6 +130,7 @@ func checkNotBuilt(t *testing.T, list []impl.Feature, off []string, code int, ab
 			t.Error("Section", short(list), "without", short(off), rows, got, "not", code)
 		}
 	}
+	checkNotPrinted(t, list, off, code)
 }
 
 func checkRightFeature(t *testing.T, f impl.Feature) {
