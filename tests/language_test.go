@@ -193,13 +193,54 @@ func TestProjectHasNoOtherFolders(t *testing.T) {
 	}
 }
 
-// What is drawn while a map is gone through hangs on its order, which is another
-// one in each run; so does what is drawn from a source that no test has made.
-func TestWhatIsDrawnIsTheSameInEachRun(t *testing.T) {
+// A machine may make a product and a sum in one, unless the product is converted;
+// which machine the tests run on, no answer tells. The language's own products and
+// quotients of complex numbers are not made part by part as the document asks.
+func TestProductsAreRoundedOnTheirOwn(t *testing.T) {
+	fset, files, info := checkedFiles(t, "../impl/*.go")
+	products := 0
+	for _, file := range files {
+		converted := map[ast.Expr]bool{}
+		ast.Inspect(file, func(n ast.Node) bool {
+			switch x := n.(type) {
+			case *ast.CallExpr:
+				if info.Types[x.Fun].IsType() {
+					converted[ast.Unparen(x.Args[0])] = true
+				}
+			case *ast.BinaryExpr:
+				if x.Op == token.MUL && ofKind(info, x, types.IsFloat) {
+					products++
+					if !converted[x] {
+						t.Error(fset.Position(x.Pos()), "has a product that is not rounded on its own:", types.ExprString(x))
+					}
+				}
+				if (x.Op == token.MUL || x.Op == token.QUO) && ofKind(info, x, types.IsComplex) {
+					t.Error(fset.Position(x.Pos()), "leaves parts to the language:", types.ExprString(x))
+				}
+			case *ast.AssignStmt:
+				if (x.Tok == token.MUL_ASSIGN || x.Tok == token.QUO_ASSIGN) && ofKind(info, x.Lhs[0], types.IsFloat|types.IsComplex) {
+					t.Error(fset.Position(x.Pos()), "has a product that is not rounded on its own")
+				}
+			}
+			return true
+		})
+	}
+	if products == 0 {
+		t.Error("the program has no product of floats")
+	}
+}
+
+func ofKind(info *types.Info, x ast.Expr, kind types.BasicInfo) bool {
+	of, ok := info.Types[x].Type.Underlying().(*types.Basic)
+	return ok && of.Info()&kind != 0 && info.Types[x].Value == nil
+}
+
+func checkedFiles(t *testing.T, pattern string) (*token.FileSet, []*ast.File, *types.Info) {
+	t.Helper()
 	fset := token.NewFileSet()
-	names, err := filepath.Glob("*_test.go")
+	names, err := filepath.Glob(pattern)
 	if err != nil || len(names) == 0 {
-		t.Fatal("no files of tests", err)
+		t.Fatal("no files", pattern, err)
 	}
 	var files []*ast.File
 	for _, name := range names {
@@ -211,9 +252,16 @@ func TestWhatIsDrawnIsTheSameInEachRun(t *testing.T) {
 	}
 	info := &types.Info{Types: map[ast.Expr]types.TypeAndValue{}, Uses: map[*ast.Ident]types.Object{}}
 	config := types.Config{Importer: importer.ForCompiler(fset, "source", nil)}
-	if _, err := config.Check("tests", fset, files, info); err != nil {
+	if _, err := config.Check(files[0].Name.Name, fset, files, info); err != nil {
 		t.Fatal(err)
 	}
+	return fset, files, info
+}
+
+// What is drawn while a map is gone through hangs on its order, which is another
+// one in each run; so does what is drawn from a source that no test has made.
+func TestWhatIsDrawnIsTheSameInEachRun(t *testing.T) {
+	fset, files, info := checkedFiles(t, "*_test.go")
 	drawing := 0
 	for _, file := range files {
 		ast.Inspect(file, func(n ast.Node) bool {
