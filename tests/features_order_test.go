@@ -109,6 +109,7 @@ func checkRefused(t *testing.T, list []impl.Feature, code int, about ...string) 
 	if order, got, names := impl.FeatureOrder(list); len(order) != 0 || got != code || !slices.Equal(names, about) {
 		t.Error("FeatureOrder", short(list), order, got, short(names), "not", code, short(about))
 	}
+	checkNotWritten(t, list, code)
 	checkNotBuilt(t, list, nil, code, about...)
 	checkNotBuilt(t, list, []string{"no feature at all"}, code, about...)
 }
