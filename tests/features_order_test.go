@@ -110,6 +110,7 @@ func checkRefused(t *testing.T, list []impl.Feature, code int, about ...string) 
 		t.Error("FeatureOrder", short(list), order, got, short(names), "not", code, short(about))
 	}
 	checkNotWritten(t, list, code)
+	checkNoVersion(t, list, code)
 	checkNotBuilt(t, list, nil, code, about...)
 	checkNotBuilt(t, list, []string{"no feature at all"}, code, about...)
 }
