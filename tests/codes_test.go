@@ -184,7 +184,7 @@ func stageOneCalls() []func() string {
 }
 
 func TestAnswersHangOnNothingElse(t *testing.T) {
-	calls := slices.Concat(stageOneCalls(), termCalls(), planeCalls(), sketchCalls(), featureCalls(), nameCalls(), chainCalls(), fitCalls(), measuringCalls(), millingCalls(), strategyCalls(), programCalls(), postCalls(), controllerCalls(), printingCalls(), sheetCalls(), barCalls(), vibrationCalls(), plantCalls(), fileCalls(), mergeCalls())
+	calls := slices.Concat(stageOneCalls(), termCalls(), planeCalls(), sketchCalls(), featureCalls(), nameCalls(), chainCalls(), fitCalls(), measuringCalls(), millingCalls(), strategyCalls(), programCalls(), postCalls(), controllerCalls(), printingCalls(), sheetCalls(), barCalls(), vibrationCalls(), plantCalls(), fileCalls(), mergeCalls(), consoleCalls())
 	first := make([]string, len(calls))
 	for i, call := range calls {
 		first[i] = call()
