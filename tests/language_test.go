@@ -310,3 +310,73 @@ func drawsUnseeded(used types.Object) bool {
 	}
 	return f.Name() != "New" && f.Name() != "NewSource"
 }
+
+// Each function that the document lists is called by one of the lists of calls,
+// and the answers of all these are asked for again.
+func TestEveryFunctionIsAskedAgain(t *testing.T) {
+	_, program, _ := checkedFiles(t, "../impl/*.go")
+	_, tests, _ := checkedFiles(t, "*_test.go")
+	named := namedByFunctions(tests)
+	lists := 0
+	for name := range named {
+		if strings.HasSuffix(name, "Calls") {
+			lists++
+			if !slices.Contains(named["TestAnswersHangOnNothingElse"], name) {
+				t.Error("nothing asks again for", name)
+			}
+		}
+	}
+	called := reachedBy(named, "TestAnswersHangOnNothingElse")
+	functions := 0
+	eachFunction(program, func(f *ast.FuncDecl) {
+		if f.Recv == nil && f.Name.IsExported() {
+			functions++
+			if called["impl."+f.Name.Name] == 0 {
+				t.Error("no list of calls has", f.Name.Name)
+			}
+		}
+	})
+	if functions != 86 || lists != 22 {
+		t.Error("there are", functions, "functions and", lists, "lists of calls")
+	}
+}
+
+// namedByFunctions: what each function names, the program's with impl ahead.
+func namedByFunctions(files []*ast.File) map[string][]string {
+	named := map[string][]string{}
+	eachFunction(files, func(f *ast.FuncDecl) {
+		ast.Inspect(f.Body, func(n ast.Node) bool {
+			switch x := n.(type) {
+			case *ast.SelectorExpr:
+				named[f.Name.Name] = append(named[f.Name.Name], types.ExprString(x))
+			case *ast.Ident:
+				named[f.Name.Name] = append(named[f.Name.Name], x.Name)
+			}
+			return true
+		})
+	})
+	return named
+}
+
+func reachedBy(named map[string][]string, start string) map[string]int {
+	reached := map[string]int{start: 1}
+	for left := []string{start}; len(left) > 0; left = left[1:] {
+		for _, name := range named[left[0]] {
+			if reached[name] == 0 {
+				left = append(left, name)
+			}
+			reached[name]++
+		}
+	}
+	return reached
+}
+
+func eachFunction(files []*ast.File, what func(*ast.FuncDecl)) {
+	for _, file := range files {
+		for _, d := range file.Decls {
+			if f, ok := d.(*ast.FuncDecl); ok {
+				what(f)
+			}
+		}
+	}
+}

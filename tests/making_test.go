@@ -60,26 +60,6 @@ func checkLaidDown(t *testing.T, list []impl.Feature) ([]impl.Feature, *dots) {
 	return back, d
 }
 
-// columnsIn is the field of the cells: from the ground to the highest of each
-// column, no wider than it must be.
-func columnsIn(d *dots) impl.Field {
-	f := impl.Field{W: 1, H: 1}
-	var tops [impl.Grid][impl.Grid]int
-	for x := range d {
-		for y := range d[x] {
-			for z, there := range d[x][y] {
-				if there {
-					f.W, f.H, tops[y][x] = max(f.W, x+1), max(f.H, y+1), z+1
-				}
-			}
-		}
-	}
-	for y := range f.H {
-		f.Tops = append(f.Tops, tops[y][:f.W]...)
-	}
-	return f
-}
-
 // checkCut: a tool's moves over a full stock leave just what the tool can leave.
 func checkCut(t *testing.T, part impl.Field, r, step int) ([]impl.Move, bool) {
 	t.Helper()
@@ -231,7 +211,7 @@ func checkMaking(t *testing.T, draw *rand.Rand, list []impl.Feature) (cut, drive
 	t.Helper()
 	back, d := checkLaidDown(t, list)
 	checkLayersAreCells(t, back, d)
-	part := columnsIn(d)
+	part := columnsOf(back, nil)
 	for r := range 4 {
 		step := 1 + draw.Intn(24)
 		moves, fits := checkCut(t, part, r, step)
@@ -263,7 +243,7 @@ func TestMakingKnownByHand(t *testing.T) {
 	if d.count() != 5 || d.row(0, 0)[:4] != "###." || d.row(0, 1)[:4] != "#.#." {
 		t.Error("the cells", d.count(), d.row(0, 0), d.row(0, 1))
 	}
-	part := columnsIn(d)
+	part := columnsOf(back, nil)
 	if !sameField(part, field("212")) {
 		t.Error("the field", part)
 	}
